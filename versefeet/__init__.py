@@ -1,0 +1,1 @@
+"""Verses scanned by a measure, and verses made from a stock of words."""
