@@ -121,6 +121,12 @@ class LongRowTest(unittest.TestCase):
         self.assertEqual(next_row(12, all_long(1), list(range(12)), stock), [1, 1])
         self.assertEqual(next_row(12, all_long(10), list(range(12)), stock), [10] + list(range(9)) + [10])
 
+    def test_after_may_have_more_words_than_can_scan(self):
+        stock = ["tA" * 11] * 12
+        self.assertEqual(next_row(12, all_long(22), list(range(12)), stock), [2, 0, 2])
+        self.assertEqual(next_row(12, all_long(22), [11, 10, 0], stock), [0])
+        self.assertEqual(next_row(12, all_long(10), list(range(12)), stock), [0])
+
     def test_a_needed_word_that_is_used_up(self):
         # One word alone has two shorts in a row, and the measure asks for
         # them twice; of others there are many.

@@ -270,6 +270,11 @@ class SpeakHoldsTest(unittest.TestCase):
                     self.assertTrue(new % 4 == old % 4 or new % 4 == LONG, line)
         self.assertGreater(tried, 300)
 
+    def test_a_capital_vowel_for_a_pair_changes_nothing(self):
+        for line in ("taeta", "tautra taeta", "poena", "teuta", "tae ata", "taem ata"):
+            for pair in ("ae", "au", "oe", "eu"):
+                self.assertEqual(speak(line.replace(pair, "A")), speak(line), line)
+
 
 if __name__ == "__main__":
     unittest.main()

@@ -45,6 +45,17 @@ def costs_of(texts, most):
     return costs
 
 
+# Rows that have too many syllables even where each word is passed over as far
+# as can be are not looked at: so most may be less than was asked for.
+def words_at_most(measure, words, most):
+    syllables_most = sum([max([len(way) for way in ways]) for ways in measure.feet])
+    fewest = sorted([len(word.shapes[1].weights) for word in words])
+    count = min(most, len(words))
+    while sum(fewest[:count]) > syllables_most:
+        count -= 1
+    return count
+
+
 def sort_key(word, cost):
     shapes = [(shape.lead, tuple(shape.weights)) for shape in word.shapes]
     return (word.vowel_first, shapes[0], shapes[1], cost)
@@ -52,20 +63,20 @@ def sort_key(word, cost):
 
 class RowFinder:
     def __init__(self, measure, texts, most):
-        self.most = min(most, len(texts))
+        words = [Word(text) for text in texts]
+        self.most = words_at_most(measure, words, most)
         self.places = Places(measure)
         self.sorts = []
         self.sort_numbers = []
-        self.add_words(texts)
+        self.add_words(words, costs_of(texts, self.most))
         self.outlook = Outlook(self.places, self.sorts, [])
         self.vain = {}
         self.blamed = {}
         self.patience = PATIENCE
 
-    def add_words(self, texts):
+    def add_words(self, words, costs):
         known = {}
-        for text, cost in zip(texts, costs_of(texts, self.most)):
-            word = Word(text)
+        for word, cost in zip(words, costs):
             key = sort_key(word, cost)
             if key not in known:
                 known[key] = len(self.sorts)
@@ -93,14 +104,14 @@ class RowFinder:
         return []
 
     # Of these beginnings only what comes behind the row is gone through, so
-    # none of them is searched as a whole.
+    # none of them is searched as a whole; and they may be longer than most.
     def path_to(self, after):
         state = (START, self.places.first)
         beginning = Beginning([], (), (state, state), LINE_MOST + 1)
         beginning.is_whole = False
         path = [beginning]
         for number in after:
-            longer = self.with_word(beginning, number)
+            longer = self.with_sort(beginning, self.sort_numbers[number], beginning.row + [number])
             longer.is_whole = False
             beginning.upcoming = number + 1
             path.append(longer)
@@ -109,7 +120,7 @@ class RowFinder:
 
     # Gives None where the row is full or has the word.
     def with_word(self, beginning, number):
-        if len(beginning.row) == self.most or number in beginning.row:
+        if len(beginning.row) >= self.most or number in beginning.row:
             return None
         return self.with_sort(beginning, self.sort_numbers[number], beginning.row + [number])
 

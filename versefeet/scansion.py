@@ -14,7 +14,7 @@ class Scansion:
         self.syllables = syllables
         self.met_values = (False, True) if self.cuts else (True,)
         self.counts = self.count_all()
-        self.total = self.counts[0].get((0, self.met_values[0]), 0)
+        self.total = self.counts[0][(0, self.met_values[0])]
 
     def fits(self, way, at):
         if at + len(way) > len(self.syllables):
