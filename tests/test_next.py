@@ -4,9 +4,7 @@ import unittest
 from unittest import mock
 
 import oracle
-from asks import next_row, numbers, rows_by_next, scan, speak
-from versefeet.measures import read_measure
-from versefeet.rows import RowFinder
+from asks import next_row, rows_by_next, scan, speak
 
 HEXAMETER = "-uu,--|-uu,--|-uu,--|-uu,--|-uu|-u,--"
 
@@ -228,19 +226,19 @@ class NextHoldsTest(unittest.TestCase):
             self.assertEqual(rows_by_next(most, measure, stock), expected, (measure, stock, most))
         self.assertGreater(with_rows, 50)
 
-    def test_all_rows_where_the_lack_of_words_is_watched(self):
-        found_while_watching = 0
-        for number in range(40):
+    def test_all_rows_where_few_notes_are_kept(self):
+        # However little is kept, and however it is looked up, the same is found.
+        with_rows = 0
+        for number in range(60):
             measure = self.random_measure(5)
             stock = self.random_stock(3) + ["tata", "tA", "a"]
-            after = []
-            for expected in oracle.all_rows(measure, stock, 6) + [[]]:
-                with mock.patch("versefeet.rows.PATIENCE", 1):
-                    finder = RowFinder(read_measure(numbers(measure)), stock, 6)
-                    self.assertEqual(finder.first_behind(after), expected, (measure, stock, after))
-                found_while_watching += bool(finder.outlook.watched and expected)
-                after = expected
-        self.assertGreater(found_while_watching, 20)
+            expected = oracle.all_rows(measure, stock, 6)
+            with_rows += bool(expected)
+            for notes_most, lacks_most in ((1, 2000), (3, 0), (10, 1), (300000, 0)):
+                with mock.patch("versefeet.finishing.NOTES_MOST", notes_most), \
+                        mock.patch("versefeet.finishing.LACKS_MOST", lacks_most):
+                    self.assertEqual(rows_by_next(6, measure, stock), expected, (measure, stock, notes_most))
+        self.assertGreater(with_rows, 20)
 
     def test_all_rows_where_few_bytes_are_allowed(self):
         with_rows = 0
@@ -250,7 +248,7 @@ class NextHoldsTest(unittest.TestCase):
             line_most = self.source.randint(3, 15)
             expected = oracle.all_rows(measure, stock, 5, line_most)
             with_rows += bool(expected)
-            with mock.patch("versefeet.rows.LINE_MOST", line_most):
+            with mock.patch("versefeet.sorts.LINE_MOST", line_most):
                 self.assertEqual(rows_by_next(5, measure, stock), expected, (measure, stock, line_most))
         self.assertGreater(with_rows, 30)
 

@@ -6,9 +6,12 @@ cut met. Behind all the feet there's one place more, where a line is done.
 """
 
 from versefeet.measures import LONG_SIGN
+from versefeet.words import LENGTHS, START, joined_weight
 
 
-# The ways of one foot, laid one behind another from the bit given on.
+# The ways of one foot, laid one behind another from the bit given on. twins:
+# of each place the first one from where a way goes on alike; what finishes a
+# line from the one finishes it from the other.
 class Stretch:
     def __init__(self, ways, cut_places, begin):
         self.size = 0
@@ -17,21 +20,27 @@ class Stretch:
         self.longs = 0
         self.inner = 0
         self.cuts = 0
+        self.twins = {}
+        known = {}
         for way in ways:
             self.starts |= 1 << (begin + self.size)
-            for place, sign in enumerate(way):
-                is_last = place + 1 == len(way)
-                self.lay_place(1 << (begin + self.size), sign, is_last, place in cut_places)
+            rest = tuple([(sign, place in cut_places) for place, sign in enumerate(way)])
+            while rest:
+                bit = 1 << (begin + self.size)
+                self.lay_place(bit, rest)
+                self.twins[bit] = known.setdefault(rest, bit)
                 self.size += 1
+                rest = rest[1:]
 
-    def lay_place(self, bit, sign, is_last, is_cut):
-        if is_last:
+    # rest: sign, and whether it's a cut, of this place and of all behind it.
+    def lay_place(self, bit, rest):
+        if len(rest) == 1:
             self.ends |= bit
         else:
             self.inner |= bit
-        if sign == LONG_SIGN:
+        if rest[0][0] == LONG_SIGN:
             self.longs |= bit
-        if is_cut:
+        if rest[0][1]:
             self.cuts |= bit
 
 
@@ -66,6 +75,11 @@ class Places:
         self.fitting = (every ^ longs, longs, every)
         self.first = starts[0] if measure.cuts else starts[0] << self.half
         self.done = behind_all << self.half
+        self.twins = {}
+        for stretch in stretches:
+            for bit in stretch.twins:
+                self.twins[bit] = stretch.twins[bit]
+                self.twins[bit << self.half] = stretch.twins[bit] << self.half
 
     def twice(self, places):
         return places | (places << self.half)
@@ -96,3 +110,16 @@ class Places:
             met = (standing >> self.half) & self.cuts
             standing = (standing & ~self.cuts) | met
         return standing & self.fitting[length]
+
+    # A state is the weight behind a line's last vowel, and the places where
+    # the line may be ahead of that vowel's syllable.
+    def after_shape(self, state, shape):
+        weight = joined_weight(state[0], shape.lead)
+        places = state[1]
+        if not shape.weights:
+            return (weight, places)
+        if weight != START:
+            places = self.after_syllable(places, LENGTHS[weight], True)
+        for inner in shape.weights[:-1]:
+            places = self.after_syllable(places, LENGTHS[inner], False)
+        return (shape.weights[-1], places)
